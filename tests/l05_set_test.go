@@ -948,8 +948,9 @@ func spareSet(s []impl.Range) []impl.Range {
 }
 
 // shares tells whether the two lists, with the room behind them, have memory in common.
-func shares(a []impl.Range, b []impl.Range) bool {
-	const size = unsafe.Sizeof(impl.Range{})
+func shares[T any](a []T, b []T) bool {
+	var one T
+	size := unsafe.Sizeof(one)
 	from, at := uintptr(unsafe.Pointer(unsafe.SliceData(a))), uintptr(unsafe.Pointer(unsafe.SliceData(b)))
 	return cap(a) > 0 && cap(b) > 0 && at < from+uintptr(cap(a))*size && from < at+uintptr(cap(b))*size
 }
