@@ -1296,7 +1296,7 @@ func wantNewTexts(t *testing.T, what string, got []string, given []string) {
 	for _, part := range got {
 		for _, whole := range given {
 			if lies(part, whole) {
-				t.Errorf("%s answers the text %q of its argument", what, part)
+				t.Errorf("%s answers the text %.20q of its argument", what, part)
 			}
 		}
 	}
